@@ -134,6 +134,15 @@ func badGrades() []badGrade {
 			}
 		}
 	}
+	// The kind of a curve without points is not needed.
+	good, unordered := linear(0, 0, 1, 1), linear(1, 0, 0, 0)
+	for i := range 4 {
+		for _, none := range []api.Curve{{Kind: api.CurveLinear}, {Kind: api.CurveSmooth, X: []float32{}, Y: []float32{}}, {Kind: -1}, {Kind: 3}} {
+			alone, beside, wrong := curved(), curved(good, good, good, good), curved(unordered, unordered, unordered, unordered)
+			alone.Curves[i], beside.Curves[i], wrong.Curves[i] = none, none, none
+			l = append(l, badGrade{alone, api.ErrConflict}, badGrade{beside, api.ErrConflict}, badGrade{wrong, api.ErrOrder})
+		}
+	}
 	// What is needed comes ahead of what is not.
 	wrong := contrast(oddNaN(), 1)
 	wrong.Points[0] = 1
@@ -255,11 +264,6 @@ func TestP71Apply(t *testing.T) {
 		checkPixel(t, got, c.want, "Apply", c.g)
 		checkError(t, e, api.OK, "Apply", c.g)
 	}
-	// A curve without points is none, whatever its kind is.
-	odd := api.Grade{Kind: api.GradeCurves, Curves: [4]api.Curve{{Kind: 9}, {Kind: -1}, {Kind: 1}, {}}}
-	got, e := grade.Apply(odd, p)
-	checkPixel(t, got, p, "curves without points")
-	checkError(t, e, api.OK, "curves without points")
 }
 
 // wantApplyAll is what a list of grades does to a frame.
@@ -324,6 +328,7 @@ func badLists() map[string]badList {
 	return map[string]badList{
 		"too long": {long, api.ErrLarge}, "too long and bad": {longAndBad, api.ErrLarge}, "the last one": {wrong, api.ErrForm}, "no kind": {[]api.Grade{{}}, api.ErrKind},
 		"the first of two": {[]api.Grade{printer(1, 2, 3), bad, worse}, api.ErrForm}, "the other way round": {[]api.Grade{worse, bad}, api.ErrRange}, "a conflict": {[]api.Grade{conflict, bad}, api.ErrConflict},
+		"a kind without points": {[]api.Grade{curved(api.Curve{Kind: api.CurveLinear}), bad}, api.ErrConflict},
 	}
 }
 

@@ -69,11 +69,6 @@ func TestP73Print(t *testing.T) {
 			t.Errorf("Print of nothing: %q, error %d", text, e)
 		}
 	}
-	// A curve without points is none, whatever its kind is.
-	odd := api.Grade{Kind: api.GradeCurves, Curves: [4]api.Curve{{Kind: 9}, {Kind: -1}, {Kind: 1}, {}}}
-	if text, e := grade.Print([]api.Grade{odd}); text != "curves - - - -\n" || e != api.OK {
-		t.Errorf("Print of curves without points: %q, error %d", text, e)
-	}
 	for name, c := range badLists() {
 		text, e := grade.Print(c.list)
 		refused(t, text, e, c.error, name)
