@@ -15,16 +15,16 @@ func copied(g api.Grade) api.Grade {
 	return g
 }
 
-// singles are the places of the singles that g has by its kind, in the order in
-// which they are written.
-func singles(g *api.Grade) []*float32 {
+// singlesOf are the places of the singles that a grade of that kind needs, in
+// the order in which they are written.
+func singlesOf(kind int, g *api.Grade) []*float32 {
 	var l []*float32
 	add := func(row []float32) {
 		for i := range row {
 			l = append(l, &row[i])
 		}
 	}
-	switch g.Kind {
+	switch kind {
 	case api.GradeWheels:
 		add(g.Wheels.Lift[:])
 		add(g.Wheels.Gamma[:])
@@ -43,6 +43,16 @@ func singles(g *api.Grade) []*float32 {
 		add(g.Mixer.Rows[:])
 	case api.GradeContrast:
 		l = append(l, &g.Pivot, &g.Amount)
+	}
+	return l
+}
+
+// singles are the places of all singles of g, also of those that its kind does
+// not need: these are zeros, but of either sign.
+func singles(g *api.Grade) []*float32 {
+	var l []*float32
+	for kind := range gradeWords() {
+		l = append(l, singlesOf(kind, g)...)
 	}
 	return l
 }

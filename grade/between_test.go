@@ -94,6 +94,34 @@ func TestP72BetweenEdges(t *testing.T) {
 	checkBetween(t, a, b, 0.5, curved(linear(0.5, 2, 1.5, 3), api.Curve{}, smooth(1, 0, 2, 1, 4, 6), api.Curve{}))
 }
 
+// zeroed returns g with zeros of either sign in the singles that it does not
+// need.
+func (m *mixer) zeroed(g api.Grade) api.Grade {
+	zero := func() float32 { return single(m.next() & 0x80000000) }
+	var rows api.Mixer
+	for i := range rows.Rows {
+		rows.Rows[i] = zero()
+	}
+	plain := api.Grade{
+		Kind: g.Kind, Points: g.Points, Curves: g.Curves, Mixer: rows, Pivot: zero(), Amount: zero(),
+		Wheels: api.Wheels{Lift: three(zero), Gamma: three(zero), Gain: three(zero)},
+		CDL:    api.CDL{Slope: three(zero), Offset: three(zero), Power: three(zero), Saturation: zero()},
+	}
+	return together(plain, g, g.Kind)
+}
+
+// What a grade does not need is zero, but of either sign, and is mixed too.
+func TestP72BetweenZeros(t *testing.T) {
+	m := mixer{}
+	for i := range 300 {
+		a := m.zeroed(m.grade(1 + i%6))
+		b := m.zeroed(a)
+		for _, share := range []float32{0, minusZero(), 1, 0.5, m.between(0, 1)} {
+			checkBetween(t, a, b, share, wantBetween(a, b, share))
+		}
+	}
+}
+
 func TestP72BetweenErrors(t *testing.T) {
 	good, none := contrast(1, 2), api.Curve{}
 	refusal := func(a, b api.Grade, share float32, want api.Errno) {
@@ -103,7 +131,7 @@ func TestP72BetweenErrors(t *testing.T) {
 	}
 	bad, worse := contrast(oddNaN(), 1), printer(99, 0, 0)
 	for _, share := range []float32{0.5, -1, 2, oddNaN()} { // the share is looked at behind the grades
-		for _, c := range badNeeds() {
+		for _, c := range badGrades() {
 			refusal(c.grade, good, share, c.error)
 			refusal(good, c.grade, share, c.error)
 			refusal(c.grade, worse, share, c.error)
@@ -173,5 +201,9 @@ func TestP72Tidy(t *testing.T) {
 	for name, c := range badLists() {
 		l, e := grade.Tidy(c.list)
 		refused(t, l, e, c.error, name)
+	}
+	for _, c := range badGrades() {
+		l, e := grade.Tidy([]api.Grade{printer(1, 2, 3), c.grade})
+		refused(t, l, e, c.error, c.grade)
 	}
 }

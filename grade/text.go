@@ -53,7 +53,7 @@ func wordsOf(g api.Grade) []string {
 			words = append(words, strconv.Itoa(n))
 		}
 	default:
-		for _, v := range singles(&g) {
+		for _, v := range singlesOf(g.Kind, &g) {
 			words = append(words, num.Text(*v))
 		}
 	}
@@ -110,7 +110,7 @@ func readGrade(words []string) (api.Grade, bool) {
 	case api.GradePrinter:
 		g.Points, good = readPoints(words)
 	default:
-		good = readSingles(singles(&g), words)
+		good = readSingles(singlesOf(g.Kind, &g), words)
 	}
 	return g, good
 }
